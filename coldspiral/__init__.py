@@ -1,0 +1,1 @@
+"""A hardening spiral: trays that go through cold air on a chain."""
