@@ -1,6 +1,7 @@
 """The hardening spiral and the calls that are made on it, as one list of whole numbers."""
 
 NONE_SUCH = -2
+NONE_CAME_OUT = -6
 NOT_BEGUN = -11
 THERE_IS_ONE = -16
 IS_OUT = -17
@@ -9,18 +10,8 @@ TOO_MANY = -28
 NOT_SO = -33
 
 BEGIN = 0
-PUT = 1
-MINUTES = 2
-EVERY = 3
-DOOR = 4
-AHEAD = 5
-ENDS = 6
-HARDENS = 7
-NEEDS = 8
-MOST = 9
 
-# How many whole numbers stand behind each call's own number. It tells all twenty,
-# so that a list can be taken apart whichever calls are in it.
+# How many whole numbers stand behind each call's own number.
 WIDTHS = (7, 3, 1, 1, 1, 1, 1, 2, 2, 2, 3, 1, 0, 0, 1, 1, 0, 0, 0, 0)
 
 # The least and the greatest that begin lets, in the order of its numbers.
@@ -32,13 +23,14 @@ GREATEST_FROST = 600
 GREATEST_PACE = 60
 MOST_MINUTES = 500
 MOST_TRAYS = 100
-LONGEST_HARDENING = 2000
+LONGEST_IN_STEADY_AIR = 2000
 
 
 class Tray:
     """A tray that was put on the chain; out_minute is None as long as it's there."""
 
-    def __init__(self, flavour, litres, frost, put_minute):
+    def __init__(self, number, flavour, litres, frost, put_minute):
+        self.number = number
         self.flavour = flavour
         self.litres = litres
         self.frost = frost
@@ -65,7 +57,7 @@ class Spiral:
 
 def twin_tray(tray):
     """A tray of its own that is as this one."""
-    other = Tray(tray.flavour, tray.litres, tray.frost, tray.put_minute)
+    other = Tray(tray.number, tray.flavour, tray.litres, tray.frost, tray.put_minute)
     other.out_minute = tray.out_minute
     return other
 
@@ -117,9 +109,24 @@ def trays_on_chain(spiral):
     return [spiral.trays[number] for number in spiral.slots if number is not None]
 
 
+def trays_out(spiral):
+    """The trays that came out, as they came: the first in is the first out, so by their numbers."""
+    return [tray for tray in spiral.trays if tray.out_minute is not None]
+
+
 def soft_trays(spiral, trays):
     """Those of these trays that are soft."""
     return [tray for tray in trays if tray.frost < spiral.wanted]
+
+
+def litres_together(trays):
+    """How many litres there are in these trays."""
+    return sum([tray.litres for tray in trays])
+
+
+def air_frost_now(spiral):
+    """The air's frost with the trays that are on the chain and the door as it is."""
+    return air_frost(spiral, len(trays_on_chain(spiral)), spiral.door_left > 0)
 
 
 def move_chain(spiral):
@@ -135,9 +142,8 @@ def move_chain(spiral):
 
 def pass_minute(spiral):
     """Let a minute go by; give the trays that came out in it."""
-    carried = trays_on_chain(spiral)
-    air = air_frost(spiral, len(carried), spiral.door_left > 0)
-    for tray in carried:
+    air = air_frost_now(spiral)
+    for tray in trays_on_chain(spiral):
         tray.frost = changed_frost(tray.frost, air, spiral.slow)
     spiral.minute = spiral.minute + 1
     spiral.door_left = max(0, spiral.door_left - 1)
@@ -171,7 +177,7 @@ def answer_put(spiral, flavour, litres, frost):
     number = len(spiral.trays)
     if number == MOST_TRAYS:
         return [TOO_MANY]
-    spiral.trays.append(Tray(flavour, litres, frost, spiral.minute))
+    spiral.trays.append(Tray(number, flavour, litres, frost, spiral.minute))
     spiral.slots[0] = number
     return [number]
 
@@ -235,7 +241,7 @@ def answer_hardens(spiral, trays, frost):
     if not is_steady_air_asked(spiral, trays, frost):
         return [OUT_OF_RANGE]
     air = air_frost(spiral, trays, False)
-    for passed in range(LONGEST_HARDENING + 1):
+    for passed in range(LONGEST_IN_STEADY_AIR + 1):
         if frost >= spiral.wanted:
             return [passed]
         frost = changed_frost(frost, air, spiral.slow)
@@ -264,30 +270,93 @@ def answer_most(spiral, pace, frost):
     return [NOT_SO]
 
 
-def answer_of_change(spiral, call, numbers):
-    """The answer to a call that changes the spiral."""
-    if call == PUT:
-        return answer_put(spiral, numbers[0], numbers[1], numbers[2])
-    if call == MINUTES:
-        return answer_minutes(spiral, numbers[0])
-    if call == EVERY:
-        return answer_every(spiral, numbers[0])
-    return answer_door(spiral, numbers[0])
+def answer_steady(spiral, trays, minutes, frost):
+    """The frost behind so many minutes in steady air."""
+    if not is_steady_air_asked(spiral, trays, frost) or minutes > LONGEST_IN_STEADY_AIR:
+        return [OUT_OF_RANGE]
+    return [steady_frost(spiral, trays, frost, minutes)]
 
 
-def answer_of_question(spiral, call, numbers):
-    """The answer to a call that leaves the spiral as it is."""
-    if call == AHEAD:
-        return answer_ahead(spiral, numbers[0])
-    if call == ENDS:
-        return answer_ends(spiral, numbers[0])
-    if call == HARDENS:
-        return answer_hardens(spiral, numbers[0], numbers[1])
-    if call == NEEDS:
-        return answer_needs(spiral, numbers[0], numbers[1])
-    if call == MOST:
-        return answer_most(spiral, numbers[0], numbers[1])
-    raise NotImplementedError("this call is not written yet")
+def answer_air(spiral, trays):
+    """The air's frost with so many trays, the door shut and open, and the air's frost now."""
+    if trays > spiral.places:
+        return [OUT_OF_RANGE]
+    return [air_frost(spiral, trays, False), air_frost(spiral, trays, True), air_frost_now(spiral)]
+
+
+def answer_soft(spiral):
+    """How many came out soft, their litres together, their numbers."""
+    soft = soft_trays(spiral, trays_out(spiral))
+    return [len(soft), litres_together(soft)] + [tray.number for tray in soft]
+
+
+def answer_out(spiral):
+    """How many came out; of each its number, the minute, its frost."""
+    came_out = trays_out(spiral)
+    answer = [len(came_out)]
+    for tray in came_out:
+        answer.extend([tray.number, tray.out_minute, tray.frost])
+    return answer
+
+
+def answer_of(spiral, flavour):
+    """How many litres of the flavour came out, how many of these litres soft."""
+    if flavour > GREATEST_FLAVOUR:
+        return [OUT_OF_RANGE]
+    came_out = [tray for tray in trays_out(spiral) if tray.flavour == flavour]
+    return [litres_together(came_out), litres_together(soft_trays(spiral, came_out))]
+
+
+def answer_look(spiral, number):
+    """The tray's flavour, litres, frost, the minute it was put, 1 if it's on the chain."""
+    if number >= len(spiral.trays):
+        return [NONE_SUCH]
+    tray = spiral.trays[number]
+    return [tray.flavour, tray.litres, tray.frost, tray.put_minute, 1 if tray.out_minute is None else 0]
+
+
+def answer_chain(spiral):
+    """How many trays are on the chain; of each place the tray's number and one, or 0."""
+    return [len(trays_on_chain(spiral))] + [0 if number is None else number + 1 for number in spiral.slots]
+
+
+def answer_mean(spiral):
+    """The mean, the least and the greatest of the frosts of those that came out."""
+    frosts = [tray.frost for tray in trays_out(spiral)]
+    if len(frosts) == 0:
+        return [NONE_CAME_OUT]
+    return [sum(frosts) // len(frosts), min(frosts), max(frosts)]
+
+
+def answer_sums(spiral):
+    """0; how many trays there ever were, are on the chain, came out, came out soft."""
+    came_out = trays_out(spiral)
+    return [0, len(spiral.trays), len(trays_on_chain(spiral)), len(came_out), len(soft_trays(spiral, came_out))]
+
+
+def answer_state(spiral):
+    """The minute, the pace, the places, how long the door is open yet, the frost wanted."""
+    return [spiral.minute, spiral.pace, spiral.places, spiral.door_left, spiral.wanted]
+
+
+# By the calls' numbers; begin is not among them, since it needs no spiral and makes one.
+ANSWERERS = (
+    None, answer_put, answer_minutes, answer_every, answer_door, answer_ahead, answer_ends,
+    answer_hardens, answer_needs, answer_most, answer_steady, answer_air, answer_soft, answer_out,
+    answer_of, answer_look, answer_chain, answer_mean, answer_sums, answer_state,
+)
+
+
+def answer_of_call(spiral, call, numbers):
+    """The answer to a call on a spiral that has begun."""
+    answerer = ANSWERERS[call]
+    if len(numbers) == 0:
+        return answerer(spiral)
+    if len(numbers) == 1:
+        return answerer(spiral, numbers[0])
+    if len(numbers) == 2:
+        return answerer(spiral, numbers[0], numbers[1])
+    return answerer(spiral, numbers[0], numbers[1], numbers[2])
 
 
 def answers(calls):
@@ -309,10 +378,8 @@ def answers(calls):
                 spiral = fresh
         elif spiral is None:
             answer = [NOT_BEGUN]
-        elif call <= DOOR:
-            answer = answer_of_change(spiral, call, numbers)
         else:
-            answer = answer_of_question(spiral, call, numbers)
+            answer = answer_of_call(spiral, call, numbers)
         answered.append(len(answer))
         answered.extend(answer)
     return answered

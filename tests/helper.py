@@ -29,13 +29,28 @@ CALLS = {
     "state": (19, 0),
 }
 
-# How many numbers each landed call answers when it isn't refused.
+# The calls that may change the object; all others only ask.
+CHANGING = ("begin", "put", "minutes", "every", "door")
+
+# How many numbers each call answers when it isn't refused, but for soft, out and chain.
 ANSWERED = {
     "begin": 1, "put": 1, "minutes": 2, "every": 1, "door": 1,
     "ahead": 3, "ends": 2, "hardens": 1, "needs": 1, "most": 1,
+    "steady": 1, "air": 3, "of": 2, "look": 5, "mean": 3, "sums": 5, "state": 5,
 }
 
-LANDED = tuple(ANSWERED)
+
+def told_count(name, first, places):
+    """How many numbers stand in an answer that begins with this number, on so many places."""
+    if first < 0:
+        return 1
+    if name == "soft":
+        return 2 + first
+    if name == "out":
+        return 1 + 3 * first
+    if name == "chain":
+        return 1 + places
+    return ANSWERED[name]
 
 
 def line(calls):
@@ -52,6 +67,8 @@ def line(calls):
 
 def ask(*calls):
     """The answers to the calls on a new object, a list for each call."""
+    if not 1 <= len(calls) <= 400:
+        raise ValueError(f"{len(calls)} calls are no line")
     given = answers(line(calls))
     parts = []
     at = 0
@@ -77,16 +94,22 @@ def begin(places=3, pace=2, base=200, warm=10, opened=50, slow=10, wanted=180):
     return ("begin", places, pace, base, warm, opened, slow, wanted)
 
 
-def future(tray_count, minutes=900):
-    """Calls that tell apart any two objects that would go on in different ways."""
-    asked = [("ends", number) for number in range(tray_count + 1)]
+def questions(tray_count):
+    """Calls that ask for all that can be seen of an object with so many trays, and change nothing."""
+    asked = [("soft",), ("out",), ("chain",), ("mean",), ("sums",), ("state",), ("air", 0), ("air", 1)]
+    asked += [("of", flavour) for flavour in range(10)]
+    asked += [("look", number) for number in range(tray_count + 1)]
+    asked += [("ends", number) for number in range(tray_count + 1)]
     asked += [("ahead", n) for n in (1, 7, 60, 500)]
-    asked += [("hardens", 1, 0), ("needs", 1, 0), ("most", 7, 0), ("put", 0, 1, 0)]
-    asked += [("minutes", 1)] * 20
-    asked += [("every", 3), ("door", 0)]
-    asked += [("minutes", 100)] * (minutes // 100)
-    asked += [("put", 0, 1, 0)]
-    return asked
+    return asked + [("hardens", 1, 0), ("needs", 1, 0), ("most", 7, 0), ("steady", 1, 9, 0)]
+
+
+def future(tray_count):
+    """Calls that tell apart any two objects that are different or would go on in different ways."""
+    asked = questions(tray_count)
+    asked += [("put", 0, 1, 0)] + [("minutes", 1)] * 20
+    asked += [("every", 3), ("door", 0)] + questions(tray_count + 1)
+    return asked + [("minutes", 100)] * 9 + [("put", 0, 1, 0)] + questions(tray_count + 2)
 
 
 def random_begin(rng):
@@ -103,22 +126,30 @@ def random_begin(rng):
 
 
 def random_call(rng):
-    """One of the landed calls behind begin, at times with numbers that aren't let."""
-    name = rng.choice(("put", "put", "minutes", "minutes") + LANDED[1:])
+    """One of the calls behind begin, at times with numbers that aren't let."""
+    name = rng.choice(("put", "put", "put", "minutes", "minutes", "minutes") + tuple(CALLS)[1:])
     frost = rng.choice((0, rng.randint(0, 50), rng.randint(0, 600), 600, 601))
     count = rng.choice((0, 1, rng.randint(0, 12), 13))
     pace = rng.choice((0, 1, rng.randint(1, 6), rng.randint(1, 60), 60, 61))
     few = rng.choice((0, 1, rng.randint(1, 9), rng.randint(1, 9), rng.randint(1, 200), 500, 501, HUGE))
     if name == "put":
-        return (name, rng.randint(0, 10), rng.choice((0, 1, 500, 1000, 1001)), frost)
+        return (name, rng.choice((0, 1, rng.randint(0, 10))), rng.choice((0, 1, 500, 1000, 1001)), frost)
     if name in ("minutes", "door", "ahead"):
         return (name, few)
     if name == "every":
         return (name, pace)
-    if name == "ends":
+    if name in ("ends", "look"):
         return (name, rng.choice((0, rng.randint(0, 20), HUGE)))
     if name == "most":
         return (name, pace, frost)
+    if name == "steady":
+        return (name, count, rng.choice((few, 2000, 2001)), frost)
+    if name == "air":
+        return (name, rng.choice((count, HUGE)))
+    if name == "of":
+        return (name, rng.choice((0, 1, rng.randint(0, 10), HUGE)))
+    if CALLS[name][1] == 0:
+        return (name,)
     return (name, count, frost)
 
 

@@ -2,7 +2,7 @@
 
 import unittest
 
-from tests.helper import CALLS, HUGE, ask, begin, future, last
+from tests.helper import CALLS, HUGE, ask, begin, future, last, questions
 
 # The least and the greatest number that is let, in begin's order.
 RANGES = ((1, 12), (1, 60), (1, 600), (0, 50), (0, 200), (1, 500), (1, 500))
@@ -19,8 +19,11 @@ OTHERS = (
     ("hardens", 0, 0), ("hardens", HUGE, HUGE),
     ("needs", 0, 0), ("needs", HUGE, HUGE),
     ("most", 1, 0), ("most", 0, HUGE),
-    ("steady", 0, 0, 0), ("air", 0), ("soft",), ("out",), ("of", 0), ("look", 0),
-    ("chain",), ("mean",), ("sums",), ("state",),
+    ("steady", 0, 0, 0), ("steady", HUGE, HUGE, HUGE),
+    ("air", 0), ("air", HUGE),
+    ("of", 0), ("of", 10),
+    ("look", 0), ("look", HUGE),
+    ("soft",), ("out",), ("chain",), ("mean",), ("sums",), ("state",),
 )
 
 
@@ -75,21 +78,31 @@ class Ranges(unittest.TestCase):
 
 
 class OnOneThatHasBegun(unittest.TestCase):
-    BUSY = (begin(), ("put", 3, 4, 50), ("minutes", 3), ("put", 4, 5, 250), ("door", 9), ("every", 5), ("minutes", 1))
+    # Tray 0 is out soft at minute 6, tray 1 hard at 8; tray 2 is on the chain.
+    BUSY = (
+        begin(), ("put", 3, 4, 50), ("minutes", 3), ("put", 4, 5, 250), ("minutes", 5), ("put", 5, 6, 70),
+        ("door", 9), ("every", 5), ("minutes", 1),
+    )
+
+    def test_it_is_busy(self):
+        self.assertEqual(
+            ask(*self.BUSY, ("sums",), ("state",), ("chain",))[-3:],
+            [[0, 3, 1, 2, 1], [9, 5, 3, 8, 180], [1, 3, 0, 0]],
+        )
 
     def test_a_refused_begin_changes_nothing(self):
-        undisturbed = ask(*self.BUSY, *future(2))
+        undisturbed = ask(*self.BUSY, *future(3))
         for which, (least, greatest) in enumerate(RANGES):
             refused = begin_with(which, greatest + 1)
             with self.subTest(which=which):
-                disturbed = ask(*self.BUSY, refused, *future(2))
+                disturbed = ask(*self.BUSY, refused, *future(3))
                 self.assertEqual(disturbed[len(self.BUSY)], [-22])
                 self.assertEqual(disturbed[len(self.BUSY) + 1:], undisturbed[len(self.BUSY):])
 
     def test_a_begin_that_answers_0_makes_all_new(self):
         again = begin(places=2, pace=3, base=90, warm=1, opened=7, slow=4, wanted=60)
-        new = ask(again, *future(2))
-        self.assertEqual(ask(*self.BUSY, again, *future(2))[len(self.BUSY):], new)
+        new = ask(again, *future(3))
+        self.assertEqual(ask(*self.BUSY, again, *future(3))[len(self.BUSY):], new)
 
     def test_behind_a_new_begin_there_is_nothing(self):
         asked = (("ends", 0), ("ahead", 500), ("door", 1), ("every", 1), ("minutes", 1), ("put", 0, 1, 0))
@@ -97,6 +110,17 @@ class OnOneThatHasBegun(unittest.TestCase):
             ask(*self.BUSY, begin(pace=7), *asked)[-6:],
             [[-2], [0, 0, 0], [0], [7], [1, 0], [0]],
         )
+
+    def test_nothing_can_be_seen_of_what_was_before(self):
+        given = ask(*self.BUSY, begin(pace=7), *questions(2))[len(self.BUSY) + 1:]
+        told = dict(zip(questions(2), given))
+        self.assertEqual(
+            [told[asked,] for asked in ("soft", "out", "chain", "mean", "sums", "state")],
+            [[0, 0], [0], [0, 0, 0, 0], [-6], [0, 0, 0, 0, 0], [0, 7, 3, 0, 180]],
+        )
+        self.assertEqual([told["of", flavour] for flavour in range(10)], [[0, 0]] * 10)
+        self.assertEqual([told["look", number] for number in range(3)], [[-2]] * 3)
+        self.assertEqual(told["air", 1], [190, 140, 200])
 
     def test_a_new_begin_lets_100_trays_again(self):
         once = [begin(places=1, pace=1)] + [("put", 0, 1, 0), ("minutes", 1)] * 100

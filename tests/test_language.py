@@ -11,7 +11,7 @@ FILES = sorted(path for path in PACKAGE.rglob("*") if path.is_file() and "__pyca
 
 NODES = (
     ast.Module, ast.Expr, ast.FunctionDef, ast.arguments, ast.arg, ast.ClassDef, ast.Assign, ast.AugAssign,
-    ast.If, ast.While, ast.For, ast.Return, ast.Break, ast.Continue, ast.Pass, ast.Raise, ast.ImportFrom, ast.alias,
+    ast.If, ast.While, ast.For, ast.Return, ast.Break, ast.Continue, ast.Pass, ast.Raise,
     ast.Name, ast.Constant, ast.List, ast.Tuple, ast.Dict, ast.BinOp, ast.UnaryOp, ast.BoolOp, ast.Compare,
     ast.IfExp, ast.Call, ast.keyword, ast.Attribute, ast.Subscript, ast.Slice, ast.ListComp, ast.comprehension,
     ast.expr_context, ast.boolop, ast.unaryop, ast.cmpop,
@@ -20,7 +20,7 @@ NODES = (
 
 BUILTINS = (
     "len", "range", "enumerate", "zip", "min", "max", "sum", "abs", "sorted", "reversed", "int", "str", "bool",
-    "list", "tuple", "dict", "isinstance", "any", "all", "divmod", "NotImplementedError",
+    "list", "tuple", "dict", "isinstance", "any", "all", "divmod",
 )
 
 METHODS = (
@@ -74,11 +74,10 @@ class Language(unittest.TestCase):
                     self.assertEqual(node.decorator_list, [])
                     self.assertIsNone(node.args.vararg or node.args.kwarg)
 
-    def test_imports_are_the_packages_own(self):
+    def test_nothing_is_imported(self):
         for path, tree in self.trees():
             for node in ast.walk(tree):
-                if isinstance(node, ast.ImportFrom):
-                    self.assertEqual((node.level, node.module.split(".")[0]), (0, "coldspiral"))
+                self.assertNotIsInstance(node, (ast.Import, ast.ImportFrom), path)
 
     def test_names(self):
         for path, tree in self.trees():
@@ -90,8 +89,6 @@ class Language(unittest.TestCase):
                     own.add(node.arg)
                 elif isinstance(node, ast.Name) and isinstance(node.ctx, ast.Store):
                     own.add(node.id)
-                elif isinstance(node, ast.alias):
-                    own.add(node.name)
             self.assertFalse((own - {"__init__"}) & set(dir(builtins)))
             for name in own - {"__init__"}:
                 self.assertRegex(name, r"^[A-Za-z][A-Za-z0-9_]*$")
@@ -109,12 +106,12 @@ class Language(unittest.TestCase):
         for path, tree in self.trees():
             bound = []
             for node in tree.body:
-                self.assertIsInstance(node, (ast.Expr, ast.ImportFrom, ast.FunctionDef, ast.ClassDef, ast.Assign))
+                self.assertIsInstance(node, (ast.Expr, ast.FunctionDef, ast.ClassDef, ast.Assign))
                 if isinstance(node, ast.Expr):
                     self.assertIsInstance(node.value, ast.Constant)
                 elif isinstance(node, ast.Assign):
                     bound.append(node.targets[0].id)
-                elif not isinstance(node, ast.ImportFrom):
+                else:
                     bound.append(node.name)
             self.assertEqual(len(bound), len(set(bound)))
 

@@ -4,11 +4,14 @@ import copy
 import random
 import unittest
 
-from tests.helper import HUGE, ask, random_begin, random_call, random_line
+from tests.helper import HUGE, ask, questions, random_begin, random_call, random_line
 
 
 class Model:
-    """Slow and plain: each tray is [minute put, place or None, frost], places counted from 1."""
+    """Slow and plain: a tray is [minute put, place or None, frost, flavour, litres], places counted from 1.
+
+    What came out is written down when it comes: a list of (number, minute, frost, flavour, litres).
+    """
 
     def __init__(self):
         self.told = None
@@ -18,7 +21,7 @@ class Model:
         if any(number not in range(low, high + 1) for number, (low, high) in zip(told, ranges)):
             return [-22]
         self.told, self.pace = told, told[1]
-        self.now, self.open_for, self.trays = 0, 0, []
+        self.now, self.open_for, self.trays, self.log = 0, 0, [], []
         return [0]
 
     def air(self, trays, is_open):
@@ -48,6 +51,8 @@ class Model:
                 if tray[1] > self.told[0]:
                     tray[1] = None
                     out.append(tray)
+                    number = [other is tray for other in self.trays].index(True)
+                    self.log.append((number, self.now, *tray[2:]))
         return out
 
     def put(self, flavour, litres, frost):
@@ -57,7 +62,7 @@ class Model:
             return [-16]
         if len(self.trays) >= 100:
             return [-28]
-        self.trays.append([self.now, 1, frost])
+        self.trays.append([self.now, 1, frost, flavour, litres])
         return [len(self.trays) - 1]
 
     def minutes(self, n):
@@ -132,10 +137,73 @@ class Model:
         ]
         return [max(does)] if does else [-33]
 
+    def steady(self, trays, minutes, frost):
+        if trays > self.told[0] or frost > 600 or minutes > 2000:
+            return [-22]
+        return [self.behind(trays, minutes, frost)]
+
+    def airs(self, trays):
+        if trays > self.told[0]:
+            return [-22]
+        riding = sum(tray[1] is not None for tray in self.trays)
+        return [self.air(trays, False), self.air(trays, True), self.air(riding, self.open_for > 0)]
+
+    def soft(self):
+        numbers, litres = [], 0
+        for number, minute, frost, flavour, held in self.log:
+            if frost < self.told[6]:
+                numbers.append(number)
+                litres += held
+        return [len(numbers), litres, *numbers]
+
+    def out(self):
+        return [len(self.log)] + [told for row in self.log for told in row[:3]]
+
+    def of(self, flavour):
+        if flavour > 9:
+            return [-22]
+        told = [0, 0]
+        for number, minute, frost, other, litres in self.log:
+            if other == flavour:
+                told[0] += litres
+                told[1] += litres if frost < self.told[6] else 0
+        return told
+
+    def look(self, number):
+        if number >= len(self.trays):
+            return [-2]
+        minute, place, frost, flavour, litres = self.trays[number]
+        return [flavour, litres, frost, minute, int(place is not None)]
+
+    def chain(self):
+        told = [0] * (self.told[0] + 1)
+        for number, tray in enumerate(self.trays):
+            if tray[1] is not None:
+                told[0] += 1
+                told[tray[1]] = number + 1
+        return told
+
+    def mean(self):
+        frosts = sorted(row[2] for row in self.log)
+        if not frosts:
+            return [-6]
+        mean = 0
+        while (mean + 1) * len(frosts) <= sum(frosts):
+            mean += 1
+        return [mean, frosts[0], frosts[-1]]
+
+    def sums(self):
+        riding = [tray for tray in self.trays if tray[1] is not None]
+        return [0, len(riding) + len(self.log), len(riding), len(self.log), self.soft()[0]]
+
+    def state(self):
+        return [self.now, self.pace, self.told[0], self.open_for, self.told[6]]
+
     def answer(self, call):
         if call[0] != "begin" and self.told is None:
             return [-11]
-        return getattr(self, call[0])(*call[1:])
+        name = "airs" if call[0] == "air" else call[0]
+        return getattr(self, name)(*call[1:])
 
 
 def many_begins(seed):
@@ -147,7 +215,7 @@ def many_begins(seed):
         if rng.random() < 0.4:
             setup[rng.randint(1, 7)] = rng.choice((0, 601, HUGE))
         calls.append(tuple(setup))
-        calls += [random_call(rng) for made in range(20)]
+        calls += [random_call(rng) for made in range(30)]
     return calls
 
 
@@ -157,11 +225,13 @@ def crowded(seed):
     setup = list(random_begin(rng))
     setup[2] = rng.randint(1, 2)
     calls = [tuple(setup)]
-    for made in range(130):
+    for made in range(120):
         calls += [("put", made % 10, 1 + made, rng.randint(0, 600)), ("minutes", rng.randint(1, 3))]
         if made % 12 == 0:
             calls.append(random_call(rng))
-    return calls
+        if made % 5 == 0:
+            calls.append(rng.choice(questions(made)))
+    return calls + rng.sample(questions(100), 100)
 
 
 class AgainstTheModel(unittest.TestCase):
@@ -174,7 +244,7 @@ class AgainstTheModel(unittest.TestCase):
 
     def test_lines_of_all_calls(self):
         for seed in range(150):
-            self.check(seed, random_line(seed, 60))
+            self.check(seed, random_line(seed, 100))
 
     def test_lines_with_many_begins(self):
         for seed in range(80):

@@ -1,4 +1,4 @@
-"""hardens, needs and most."""
+"""hardens, steady, needs and most."""
 
 import unittest
 
@@ -67,6 +67,68 @@ class Hardens(unittest.TestCase):
 
     def test_out_of_range_comes_ahead_of_not_so(self):
         self.assertEqual(last(begin(places=2, base=1), ("hardens", 3, 0)), [-22])
+
+
+class Steady(unittest.TestCase):
+    def test_the_frost_minute_by_minute(self):
+        # Air 190.
+        given = ask(begin(), *[("steady", 1, minutes, 0) for minutes in range(10)])[1:]
+        self.assertEqual(given, [[frost] for frost in (0, 20, 38, 54, 68, 81, 92, 102, 111, 119)])
+
+    def test_no_minute_leaves_it(self):
+        for frost in (0, 1, 200, 600):
+            with self.subTest(frost=frost):
+                self.assertEqual(last(STEADY, ("steady", 2, 0, frost)), [frost])
+
+    def test_so_many_trays_make_the_air_so_warm(self):
+        # With slow 1 the air's frost is there in a minute.
+        setup = begin(places=4, base=200, warm=10, slow=1)
+        given = ask(setup, *[("steady", trays, 1, 0) for trays in range(5)])[1:]
+        self.assertEqual(given, [[200], [190], [180], [170], [160]])
+
+    def test_air_as_cold_as_the_tray(self):
+        for minutes in (1, 2, 2000):
+            with self.subTest(minutes=minutes):
+                self.assertEqual(last(STEADY, ("steady", 1, minutes, 190)), [190])
+
+    def test_a_tray_colder_than_the_air(self):
+        given = ask(STEADY, *[("steady", 1, minutes, 193) for minutes in (1, 2, 3, 4, 2000)])[1:]
+        self.assertEqual(given, [[192], [191], [190], [190], [190]])
+        self.assertEqual(last(STEADY, ("steady", 0, 399, 600)), [201])
+
+    def test_air_with_no_frost_left(self):
+        setup = begin(places=4, base=10, warm=5)
+        given = ask(setup, ("steady", 4, 2000, 0), ("steady", 2, 3, 3), ("steady", 2, 2, 3), ("steady", 4, 599, 600))
+        self.assertEqual(given[1:], [[0], [0], [1], [1]])
+
+    def test_it_never_goes_beyond_the_airs(self):
+        for slow in (1, 2, 500):
+            self.assertEqual(last(begin(base=600, warm=0, slow=slow), ("steady", 0, 2000, 0)), [600])
+            self.assertEqual(last(begin(base=1, warm=0, slow=slow), ("steady", 0, 2000, 600)), [1])
+
+    def test_the_door_and_the_chain_do_not_count(self):
+        calls = (STEADY, ("put", 0, 1, 0), ("minutes", 3), ("put", 0, 1, 0), ("door", 500), ("every", 60))
+        self.assertEqual(last(*calls, ("steady", 1, 9, 0)), [119])
+
+    def test_what_is_wanted_does_not_count(self):
+        self.assertEqual(last(begin(wanted=1), ("steady", 1, 9, 0)), [119])
+        self.assertEqual(last(begin(wanted=500), ("steady", 1, 9, 0)), [119])
+
+    def test_ranges(self):
+        for trays, minutes, frost in (
+            (5, 0, 0), (HUGE, 0, 0), (0, 2001, 0), (0, HUGE, 0), (0, 0, 601), (0, 0, HUGE),
+            (5, 2000, 600), (4, 2001, 600), (4, 2000, 601), (5, 2001, 601), (HUGE, HUGE, HUGE),
+        ):
+            with self.subTest(trays=trays, minutes=minutes, frost=frost):
+                self.assertEqual(last(STEADY, ("steady", trays, minutes, frost)), [-22])
+        for trays, minutes, frost, told in ((0, 0, 0, 0), (0, 0, 600, 600), (4, 2000, 600, 160), (4, 2000, 0, 160)):
+            with self.subTest(trays=trays, minutes=minutes, frost=frost):
+                self.assertEqual(last(STEADY, ("steady", trays, minutes, frost)), [told])
+
+    def test_places_bound_the_trays(self):
+        for places in (1, 2, 11, 12):
+            setup = begin(places=places, warm=0)
+            self.assertEqual(ask(setup, ("steady", places, 0, 7), ("steady", places + 1, 0, 7))[1:], [[7], [-22]])
 
 
 class Needs(unittest.TestCase):
@@ -181,7 +243,7 @@ class NothingIsChanged(unittest.TestCase):
         undisturbed = ask(*busy, *future(2))[len(busy):]
         for asked in (
             ("hardens", 1, 0), ("hardens", 4, 0), ("hardens", 3, 0), ("needs", 1, 0), ("needs", 4, 0),
-            ("most", 60, 0), ("most", 0, 0), ("most", 1, 0),
+            ("most", 60, 0), ("most", 0, 0), ("most", 1, 0), ("steady", 1, 9, 0), ("steady", 1, 2001, 0),
         ):
             with self.subTest(asked=asked):
                 self.assertEqual(ask(*busy, asked, *future(2))[len(busy) + 1:], undisturbed)
